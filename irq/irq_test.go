@@ -27,7 +27,7 @@ func has(n, line int) bool {
 // pendingOf is the model of Pending: the sum of what the lines' bits count.
 func pendingOf(time, cmp, waiting, messages int) int {
 	sum := 0
-	if cmp != 0 && asWord(time) >= asWord(cmp) {
+	if asWord(cmp) != 0 && asWord(time) >= asWord(cmp) {
 		sum += 1
 	}
 	if waiting > 0 {
@@ -128,6 +128,21 @@ func TestP801PendingLines(t *testing.T) {
 		{math.MaxInt, 1, 0, 0, 1},
 		{math.MinInt, 1, 0, 0, 0},
 		{math.MinInt + 1, 1, 0, 0, 1},
+		{5, 1 << 32, 0, 0, 0}, // 0 as a word, so no time to wait for
+		{5, -1 << 32, 0, 0, 0},
+		{5, 7 << 32, 0, 0, 0},
+		{5, 1 << 62, 0, 0, 0},
+		{0, 1 << 32, 0, 0, 0},
+		{top, 1 << 32, 0, 0, 0},
+		{1 << 32, 1 << 32, 0, 0, 0},
+		{-1, math.MinInt, 0, 0, 0},
+		{-13, math.MinInt, -4, -2, 0},
+		{-1, -1 << 32, 1, 1, 6},
+		{5, 1<<32 + 1, 0, 0, 1}, // 1 as a word
+		{5, -1<<32 + 1, 0, 0, 1},
+		{5, math.MinInt + 1, 0, 0, 1},
+		{1 << 32, 1<<32 + 1, 0, 0, 0},
+		{1 << 32, 1<<32 - 1, 0, 0, 0},
 		{0, 0, 1, 0, 2},
 		{0, 0, 16, 0, 2},
 		{0, 0, -1, 0, 0},
@@ -162,6 +177,27 @@ func TestP801PendingAsTheModel(t *testing.T) {
 				p, want := irq.Pending(x[0], x[1], x[2], x[3]), pendingOf(x[0], x[1], x[2], x[3])
 				if p != want {
 					t.Fatalf("Pending(%d, %d, %d, %d) = %d, not %d", x[0], x[1], x[2], x[3], p, want)
+				}
+			}
+		}
+	}
+}
+
+// TestP801PendingTakesTimeAndCmpAsWords asks with whole multiples of 2^32 laid over time and over cmp: each word tells the same below all of them.
+func TestP801PendingTakesTimeAndCmpAsWords(t *testing.T) {
+	words := []int{0, 1, 2, 5, 1<<31 - 1, 1 << 31, 1<<32 - 2, 1<<32 - 1}
+	above := []int{0, modulus, -modulus, 2 * modulus, 1 << 40, -1 << 40, 1 << 62, -1 << 62, math.MinInt, math.MaxInt - (modulus - 1)}
+	for _, time := range words {
+		for _, cmp := range words {
+			want := 6
+			if cmp != 0 && time >= cmp {
+				want = 7
+			}
+			for _, over := range above {
+				for _, more := range above {
+					if p := irq.Pending(time+over, cmp+more, 1, 1); p != want {
+						t.Errorf("Pending(%d, %d, 1, 1) = %d, not %d", time+over, cmp+more, p, want)
+					}
 				}
 			}
 		}
